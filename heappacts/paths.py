@@ -1,0 +1,65 @@
+"""Paths through a procedure's body."""
+
+from heappacts.terms import put, put_all
+
+
+def start(parameters):
+    """The path at the start of a procedure with these parameters."""
+    many = len(parameters)
+    arguments = tuple(("var", number) for number in range(many))
+    names = tuple(zip(parameters, arguments))
+    return ("path", arguments, (), (), (), (), names, many, 0, None, ())
+
+
+def gone(path):
+    """The addresses of needed cells and the new ones at which no present cell is."""
+    addresses = [cell[0] for cell in path[2]] + [("new", number) for number in range(path[8])]
+    present = [cell[0] for cell in path[5]]
+    return tuple(address for address in addresses if address not in present)
+
+
+def possible(path):
+    """Whether some words fit what the path needs."""
+    arguments, needs, absent, differ = path[1:5]
+    addresses = [cell[0] for cell in needs]
+    if ("num", 0) in addresses or len(set(addresses)) < len(addresses):
+        return False
+    if any(address in addresses for address in absent):
+        return False
+    if any(a == b for a, b in differ):
+        return False
+    return not (has_new(arguments) or has_new(absent) or any(has_new(cell) for cell in needs))
+
+
+def has_new(terms):
+    """Whether a new address is among the terms."""
+    return any(term[0] == "new" for term in terms)
+
+
+def term_of(path, operand):
+    """The term that an operand stands for."""
+    if not isinstance(operand, str):
+        return ("num", operand)
+    for name, term in path[6]:
+        if name == operand:
+            return term
+    return ("num", 0)
+
+
+def with_name(path, name, term):
+    """The path in which the name stands for the term."""
+    names = dict(path[6])
+    names[name] = term
+    return path[:6] + (tuple(names.items()),) + path[7:]
+
+
+def replaced(path, answer):
+    """The path with what is replaced replaced."""
+    parts = tuple(put_all(part, answer) for part in path[1:6])
+    names = tuple((name, put(term, answer)) for name, term in path[6])
+    return ("path",) + parts + (names,) + path[7:]
+
+
+def with_end(path, end, where):
+    """The path that has ended so, and there."""
+    return path[:9] + (end, where)
