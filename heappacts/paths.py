@@ -14,7 +14,8 @@ def start(parameters):
 def gone(path):
     """The addresses of needed cells and the new ones at which no present cell is."""
     addresses = [cell[0] for cell in path[2]] + [("new", number) for number in range(path[8])]
-    present = [cell[0] for cell in path[5]]
+    # a dict, as a path can have thousands of present cells
+    present = {cell[0]: True for cell in path[5]}
     return tuple(address for address in addresses if address not in present)
 
 

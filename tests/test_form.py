@@ -1,6 +1,7 @@
 """The interface stands where it is listed, and the files keep to LANGUAGE.md where that is easily seen."""
 
 import ast
+import builtins
 import pathlib
 import unittest
 
@@ -20,6 +21,12 @@ FUNCTIONS = {
     "paths": ("start(parameters)", "gone(path)", "possible(path)", "term_of(path, operand)",
               "with_name(path, name, term)", "replaced(path, answer)", "with_end(path, end, where)"),
     "rules": ("rules(statement)", "actual_of(statement)", "deep_contract(count)"),
+    "placing": ("compose(path, contract, actual)", "ways(path, contract, actual)"),
+    "ordering": ("put_in_order(path, result)", "left_out(pairs, addresses, absent)"),
+    "abduction": ("abduce(have, need)", "holds(formula, words, heap)", "applies(solution, have, words, heap)"),
+    "finding": ("contracts(program, name, depth, turns)", "body_paths(program, procedure, tables, turns)"),
+    "applying": ("words_for(contract, actual, heap)", "applying(contracts, actual, heap)",
+                 "promised(contract, actual, heap, words)"),
 }
 
 CLASSES = {
@@ -27,6 +34,16 @@ CLASSES = {
     "machine": {"Run": ("__init__(self, program, name, actual, heap, *, depth, turns)", "step(self)", "look(self)",
                         "finish(self)")},
 }
+
+
+BUILTINS = """len range enumerate zip min max sum abs sorted reversed int str bool list tuple dict set isinstance ord
+repr any all divmod super Exception ValueError""".split()
+
+METHODS = """append clear copy count endswith extend find get index insert isalnum isalpha isdigit islower isspace isupper
+items join keys ljust lower lstrip partition pop remove replace reverse rfind rjust rpartition rsplit rstrip setdefault
+split splitlines startswith strip update upper values zfill add discard""".split()
+
+EATERS = ("list", "tuple", "dict", "sorted", "sum", "min", "max", "any", "all", "enumerate", "zip")
 
 
 def trees():
@@ -95,6 +112,64 @@ class Form(unittest.TestCase):
                 self.assertNotIsInstance(node, (ast.Global, ast.Div, ast.AsyncFunctionDef, ast.Yield), name)
                 if isinstance(node, ast.Constant):
                     self.assertNotIsInstance(node.value, (float, complex), name)
+
+    def test_local_names(self):
+        """No parameter or local variable has the name of a class, an import or a builtin."""
+        for name, tree in trees().items():
+            taken = set(dir(builtins))
+            taken.update(node.name for node in tree.body if isinstance(node, ast.ClassDef))
+            taken.update(alias.asname or alias.name for node in tree.body if isinstance(node, ast.ImportFrom)
+                         for alias in node.names)
+            for node in ast.walk(tree):
+                if isinstance(node, ast.arg):
+                    self.assertNotIn(node.arg, taken, name)
+                if isinstance(node, ast.Name) and isinstance(node.ctx, ast.Store):
+                    self.assertNotIn(node.id, taken, name)
+
+    def test_builtins_and_their_methods(self):
+        own = {node.name for tree in trees().values() for node in ast.walk(tree)
+               if isinstance(node, ast.FunctionDef)} | {"__init__"}
+        for name, tree in trees().items():
+            for node in ast.walk(tree):
+                if isinstance(node, ast.Name) and isinstance(node.ctx, ast.Load) and hasattr(builtins, node.id):
+                    self.assertIn(node.id, BUILTINS, name)
+                if isinstance(node, ast.Call) and isinstance(node.func, ast.Attribute):
+                    self.assertIn(node.func.attr, METHODS + sorted(own), name)
+
+    def test_methods_and_attributes_have_different_names(self):
+        methods, attributes = set(), set()
+        for tree in trees().values():
+            for made in ast.walk(tree):
+                if isinstance(made, ast.ClassDef):
+                    methods.update(node.name for node in made.body if isinstance(node, ast.FunctionDef))
+                if isinstance(made, ast.Attribute) and isinstance(made.ctx, ast.Store):
+                    attributes.add(made.attr)
+        self.assertEqual(methods & attributes, set())
+
+    def test_what_is_iterated_at_once_and_where_sets_stand(self):
+        for name, tree in trees().items():
+            parents = {child: node for node in ast.walk(tree) for child in ast.iter_child_nodes(node)}
+            for node in ast.walk(tree):
+                over = parents.get(node)
+                called = over.func.id if isinstance(over, ast.Call) and isinstance(over.func, ast.Name) else None
+                if isinstance(node, ast.GeneratorExp):
+                    self.assertIn(called, EATERS, (name, node.lineno))
+                if isinstance(node, ast.Call) and isinstance(node.func, ast.Name):
+                    if node.func.id == "set":
+                        self.assertIn(called, ("sorted", "len"), (name, node.lineno))
+                    if node.func.id in ("zip", "enumerate", "reversed", "range"):
+                        looped = isinstance(over, (ast.For, ast.comprehension)) and over.iter is node
+                        self.assertTrue(looped or called in EATERS, (name, node.lineno))
+                self.assertNotIsInstance(node, (ast.Set, ast.SetComp), name)
+
+    def test_no_files_import_from_each_other(self):
+        uses = {name: {node.module.partition(".")[2] for node in ast.walk(tree) if isinstance(node, ast.ImportFrom)}
+                for name, tree in trees().items()}
+        while uses:
+            free = [name for name, others in uses.items() if not others & set(uses)]
+            self.assertTrue(free, uses)
+            for name in free:
+                del uses[name]
 
 
 if __name__ == "__main__":
