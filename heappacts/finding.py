@@ -2,11 +2,11 @@
 
 from heappacts.checking import called, procedure_of
 from heappacts.errors import TooMany
-from heappacts.machine import do_items
 from heappacts.ordering import put_in_order
 from heappacts.paths import start, term_of, with_end, with_name
 from heappacts.placing import Placing
 from heappacts.rules import actual_of, deep_contract, rules
+from heappacts.stepping import do_items
 
 MOST_CONTRACTS = 150
 MOST_CELLS = 30
@@ -113,7 +113,7 @@ class Walk:
         """Where a path ends that ends at the statement itself."""
         return ((self.procedure[1], statement[1]),)
 
-    def pairs(self, path, statement):
+    def compositions(self, path, statement):
         """For each contract of the statement in order, the pairs (new path, result)."""
         if statement[0] == "call":
             table = self.tables[statement[3]]
@@ -125,13 +125,13 @@ class Walk:
 
     def compared(self, path, statement):
         """The new paths where the two words are the same, and those where they are not."""
-        same, unlike = self.pairs(path, statement)
+        same, unlike = self.compositions(path, statement)
         return [new for new, _ in same], [new for new, _ in unlike]
 
     def behind(self, path, statement):
         """The new paths behind a load, store, free, new or call, in order."""
         found = []
-        for row in self.pairs(path, statement):
+        for row in self.compositions(path, statement):
             for new, result in row:
                 found.append(self.told(new, result, statement))
         return found

@@ -129,6 +129,10 @@ class Promised(Case):
         self.promise(contract((X,), result=X), (3,), ((5, 1, 1),), ("return", 3, ((5, 1, 1),), ()))
         self.promise(contract((X,), ((X, Y, Z),), result=Z), (3,), ((3, 8, 9),), ("return", 9, (), ()))
 
+    def test_a_contract_without_a_result(self):
+        stored = contract((X,), ((X, Y, Z),), result=None, gives=((X, num(5), Z),))
+        self.promise(stored, (3,), ((3, 8, 9),), ("return", None, ((3, 5, 9),), ()))
+
     def test_given_cells_in_place_of_needed_ones(self):
         swapped = contract((X,), ((X, Y, Z), (Y, U, V)), gives=((Y, V, U), (X, Z, num(6))))
         self.promise(swapped, (7,), ((2, 0, 0), (5, 1, 3), (6, 7, 5), (7, 5, 4)),

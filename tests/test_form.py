@@ -27,12 +27,19 @@ FUNCTIONS = {
     "finding": ("contracts(program, name, depth, turns)", "body_paths(program, procedure, tables, turns)"),
     "applying": ("words_for(contract, actual, heap)", "applying(contracts, actual, heap)",
                  "promised(contract, actual, heap, words)"),
+    "examples": ("example(contract)", "examples(contracts)", "reached(program, name, depth, turns)"),
+    "faults": ("faults(contracts)", "safe(program, name, depth, turns)", "returning(contracts)"),
+    "lost": ("sure(contract)", "perhaps(contract)", "losing(contracts)", "still_held(heap, words)"),
+    "asking": ("explore(work, count)",),
+    "unknown": ("run_unknown(asker, program, name, actual, depth, turns)",),
 }
 
 CLASSES = {
     "errors": {"HeappactsError": (), "TextFault": (), "ProgramFault": (), "TooMany": ()},
     "machine": {"Run": ("__init__(self, program, name, actual, heap, *, depth, turns)", "step(self)", "look(self)",
                         "finish(self)")},
+    "asking": {"Asked": (), "Asker": ("__init__(self, count, answers)", "same(self, a, b)", "cell(self, a)",
+                                      "stands(self, a)", "unlike(self, a, b)")},
 }
 
 

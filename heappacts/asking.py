@@ -1,0 +1,128 @@
+"""Words that are not known, and questions about them."""
+
+from heappacts.errors import TooMany
+from heappacts.terms import certainly_unlike
+
+ZERO = ("num", 0)
+MOST_WAYS = 1500
+
+
+class Asked(Exception):
+    """A question for which there is no answer."""
+
+    def __init__(self, question):
+        super().__init__("a question without an answer")
+        self.question = question
+
+
+class Asker:
+    """What is known of words, from the answers to the questions that were asked of them."""
+
+    def __init__(self, count, answers):
+        self.answers = answers
+        self.many = count
+        self.taken = 0
+        self.cells = ()
+        self.absent = ()
+        self.pairs = ()
+        # the word that stands for a known word, by its number, where it is another one
+        self.table = {}
+        # all of these by the words that stand: the known words for which each one stands,
+        # the number of the cell there, that there is none, and the words that are unlike
+        self.groups = {}
+        self.places = {}
+        self.without = {}
+        self.apart = {}
+
+    def same(self, a, b):
+        """Whether two words are the same; asks where it is not certain."""
+        left, right = self.stands(a), self.stands(b)
+        if left == right:
+            return True
+        if self.unlike(left, right):
+            return False
+        if self.answer(("same", left, right)):
+            self.unite(left, right)
+            return True
+        self.pairs = self.pairs + ((left, right),)
+        self.part(left, right)
+        return False
+
+    def cell(self, a):
+        """The fields of the cell at a word, None if there is none; asks where it is not certain."""
+        word = self.stands(a)
+        if word in self.places:
+            return self.cells[self.places[word]][1:]
+        if word == ZERO or word[0] == "new" or word in self.without:
+            return None
+        if not self.answer(("cell", word)):
+            self.absent = self.absent + (word,)
+            self.without[word] = True
+            return None
+        fields = (("known", self.many), ("known", self.many + 1))
+        self.many += 2
+        self.places[word] = len(self.cells)
+        self.cells = self.cells + ((word,) + fields,)
+        return fields
+
+    def stands(self, a):
+        """The word that stands for the word."""
+        if a[0] == "known":
+            return self.table.get(a[1], a)
+        return a
+
+    def unlike(self, a, b):
+        """Whether it is certain that two words are unlike."""
+        left, right = self.stands(a), self.stands(b)
+        if certainly_unlike(left, right, self.places) or right in self.apart.get(left, ()):
+            return True
+        return (left in self.places and right in self.without) or (left in self.without and right in self.places)
+
+    def answer(self, question):
+        """The next answer."""
+        if self.taken >= len(self.answers):
+            raise Asked(question)
+        self.taken += 1
+        return self.answers[self.taken - 1]
+
+    def part(self, a, b):
+        """Keep that two words, which stand for themselves, are unlike."""
+        self.apart.setdefault(a, {})[b] = True
+        self.apart.setdefault(b, {})[a] = True
+
+    def unite(self, a, b):
+        """Let one of two words, which stand for themselves, stand for both."""
+        old, kept = a, b
+        if b[0] == "known" and (a[0] != "known" or a[1] < b[1]):
+            old, kept = b, a
+        group = self.groups.pop(old, []) + [old]
+        for word in group:
+            self.table[word[1]] = kept
+        self.groups.setdefault(kept, []).extend(group)
+        if old in self.places:
+            self.places[kept] = self.places.pop(old)
+        if old in self.without:
+            self.without[kept] = self.without.pop(old)
+        for other in list(self.apart.pop(old, {})):
+            del self.apart[other][old]
+            self.part(other, kept)
+
+
+def explore(work, count):
+    """A tuple of (answers, asker, value) for all ways to answer the questions of the work."""
+    found = []
+    waiting = [()]
+    while waiting:
+        answers = waiting.pop()
+        asker = Asker(count, answers)
+        try:
+            value = work(asker)
+        except Asked:
+            waiting.append(answers + (False,))
+            waiting.append(answers + (True,))
+        else:
+            found.append((answers, asker, value))
+        # each way that waits leads to one or more
+        if len(found) + len(waiting) > MOST_WAYS:
+            raise TooMany()
+    return tuple(found)
