@@ -2,7 +2,7 @@
 
 from heappacts.ordering import addresses_of, left_out
 from heappacts.paths import possible
-from heappacts.placing import Placing, composed
+from heappacts.placing import Placing
 from heappacts.terms import put_all, variables_of, words_of
 
 
@@ -14,8 +14,9 @@ def abduce(have, need):
     path = path_of(have, numbers)
     contract = contract_of(need, numbers)
     solutions = []
-    for way in Placing(path, None).ways(contract, path[1]):
-        new_path, _ = composed(path, contract, way)
+    placing = Placing(path, None)
+    for way in placing.ways(contract, path[1]):
+        new_path, _ = placing.composed(contract, way)
         solutions.append(solution_of(new_path, way[1], path))
     return tuple(solutions)
 
@@ -48,7 +49,7 @@ def contract_of(formula, numbers):
 def solution_of(new_path, answer, path):
     """The solution that a new path, which the answer made of the path, tells."""
     needs, differ, left = new_path[2], new_path[4], new_path[5]
-    equal = tuple((number, term) for number, term in answer if number < path[7])
+    equal = tuple([(number, answer[number]) for number in sorted(answer) if number < path[7]])
     pairs = left_out(differ, addresses_of(needs), ())
     return ("solution", equal, pairs, needs[len(path[2]):], left)
 

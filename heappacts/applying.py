@@ -1,7 +1,7 @@
 """Contracts at work on arguments and heaps."""
 
 from heappacts.machine import first_new
-from heappacts.ordering import numbers_in
+from heappacts.ordering import variables_in
 from heappacts.terms import words_of
 
 
@@ -9,7 +9,7 @@ def words_for(contract, actual, heap):
     """A tuple of words for the contract's variables; None if it does not apply."""
     arguments, needs, absent, differ = contract[1:5]
     table = {}
-    if len(actual) != len(arguments) or not fits(arguments, actual, table):
+    if len(actual) != len(arguments) or not fits(arguments, actual, table, 0):
         return None
     if not fit_cells(needs, table, heap):
         return None
@@ -18,15 +18,15 @@ def words_for(contract, actual, heap):
         return None
     if any(words_of(a, table, 0) == words_of(b, table, 0) for a, b in differ):
         return None
-    return tuple([table[number] for number in range(1 + max(numbers_in(contract), default=-1))])
+    return tuple([table[number] for number in range(variables_in(contract))])
 
 
-def fits(terms, words, table):
+def fits(terms, words, table, news):
     """Whether the terms can have the words; the words of new variables are put into the table."""
     for term, word in zip(terms, words):
         if term[0] == "var" and term[1] not in table:
             table[term[1]] = word
-        elif words_of(term, table, 0) != word:
+        elif words_of(term, table, news) != word:
             return False
     return True
 
@@ -36,7 +36,7 @@ def fit_cells(needs, table, heap):
     cells = {cell[0]: cell for cell in heap}
     for cell in needs:
         address = words_of(cell[0], table, 0)
-        if address not in cells or not fits(cell, cells[address], table):
+        if address not in cells or not fits(cell, cells[address], table, 0):
             return False
         # no second needed cell can be at this address
         del cells[address]

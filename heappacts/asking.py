@@ -1,9 +1,8 @@
 """Words that are not known, and questions about them."""
 
 from heappacts.errors import TooMany
-from heappacts.terms import certainly_unlike
+from heappacts.terms import ZERO, certainly_unlike
 
-ZERO = ("num", 0)
 MOST_WAYS = 1500
 
 
@@ -25,11 +24,10 @@ class Asker:
         self.cells = ()
         self.absent = ()
         self.pairs = ()
-        # the word that stands for a known word, by its number, where it is another one
+        # the word by which a known word, by its number, was replaced
         self.table = {}
-        # all of these by the words that stand: the known words for which each one stands,
-        # the number of the cell there, that there is none, and the words that are unlike
-        self.groups = {}
+        # by the words that stand: the number of the cell there, that there is none,
+        # and that the two words of a pair are unlike
         self.places = {}
         self.without = {}
         self.apart = {}
@@ -44,7 +42,6 @@ class Asker:
         if self.answer(("same", left, right)):
             self.unite(left, right)
             return True
-        self.pairs = self.pairs + ((left, right),)
         self.part(left, right)
         return False
 
@@ -55,26 +52,21 @@ class Asker:
             return self.cells[self.places[word]][1:]
         if word == ZERO or word[0] == "new" or word in self.without:
             return None
-        if not self.answer(("cell", word)):
-            self.absent = self.absent + (word,)
-            self.without[word] = True
-            return None
-        fields = (("known", self.many), ("known", self.many + 1))
-        self.many += 2
-        self.places[word] = len(self.cells)
-        self.cells = self.cells + ((word,) + fields,)
-        return fields
+        if self.answer(("cell", word)):
+            return self.learn(word)
+        self.lack(word)
+        return None
 
     def stands(self, a):
         """The word that stands for the word."""
-        if a[0] == "known":
-            return self.table.get(a[1], a)
+        while a[0] == "known" and a[1] in self.table:
+            a = self.table[a[1]]
         return a
 
     def unlike(self, a, b):
         """Whether it is certain that two words are unlike."""
         left, right = self.stands(a), self.stands(b)
-        if certainly_unlike(left, right, self.places) or right in self.apart.get(left, ()):
+        if (left, right) in self.apart or certainly_unlike(left, right, self.places):
             return True
         return (left in self.places and right in self.without) or (left in self.without and right in self.places)
 
@@ -87,25 +79,52 @@ class Asker:
 
     def part(self, a, b):
         """Keep that two words, which stand for themselves, are unlike."""
-        self.apart.setdefault(a, {})[b] = True
-        self.apart.setdefault(b, {})[a] = True
+        self.pairs = self.pairs + ((a, b),)
+        self.apart[(a, b)] = True
+        self.apart[(b, a)] = True
 
     def unite(self, a, b):
         """Let one of two words, which stand for themselves, stand for both."""
         old, kept = a, b
         if b[0] == "known" and (a[0] != "known" or a[1] < b[1]):
             old, kept = b, a
-        group = self.groups.pop(old, []) + [old]
-        for word in group:
-            self.table[word[1]] = kept
-        self.groups.setdefault(kept, []).extend(group)
+        self.table[old[1]] = kept
         if old in self.places:
             self.places[kept] = self.places.pop(old)
         if old in self.without:
             self.without[kept] = self.without.pop(old)
-        for other in list(self.apart.pop(old, {})):
-            del self.apart[other][old]
-            self.part(other, kept)
+        for left, right in list(self.apart):
+            if left == old:
+                self.apart[(kept, right)] = True
+                self.apart[(right, kept)] = True
+
+    def learn(self, word):
+        """Keep that a cell is at the word, which stands for itself; its fields."""
+        fields = (("known", self.many), ("known", self.many + 1))
+        self.many += 2
+        self.places[word] = len(self.cells)
+        self.cells = self.cells + ((word,) + fields,)
+        return fields
+
+    def lack(self, word):
+        """Keep that no cell is at the word, which stands for itself."""
+        self.absent = self.absent + (word,)
+        self.without[word] = True
+
+    def is_without(self, a):
+        """Whether it is certain that no cell is at the word."""
+        word = self.stands(a)
+        return word == ZERO or word in self.without
+
+    def forked(self, answer):
+        """The same facts in an asker of their own, with one more answer to come."""
+        other = Asker(self.many, self.answers + (answer,))
+        other.taken, other.cells, other.absent, other.pairs = self.taken, self.cells, self.absent, self.pairs
+        other.table = {number: self.table[number] for number in self.table}
+        other.places = {word: self.places[word] for word in self.places}
+        other.without = {word: True for word in self.without}
+        other.apart = {pair: True for pair in self.apart}
+        return other
 
 
 def explore(work, count):

@@ -19,25 +19,28 @@ class Joined:
         arguments, needs, absent, differ = path[1:5]
         self.table = {}
         self.marks = {("num", 0): BARRED}
+        # of variables alone, as nothing else is ever replaced
         self.apart = {}
         self.log = []
+        # the path is possible, so nothing has to be asked, and nothing of this is taken back
         for term in arguments:
-            self.mark(term, OLD)
-        for cell in needs:
-            self.need(cell)
+            self.marks[term] = self.marks.get(term, 0) | OLD
+        for address, first, second in needs:
+            self.marks[address] = NEEDED | OLD
+            self.marks[first] = self.marks.get(first, 0) | OLD
+            self.marks[second] = self.marks.get(second, 0) | OLD
         for term in absent:
-            self.mark(term, OLD | BARRED)
+            self.marks[term] = self.marks.get(term, 0) | OLD | BARRED
         for a, b in differ:
-            self.part(a, b)
+            if a[0] == "var":
+                self.apart[a] = self.apart.get(a, ()) + (b,)
+            if b[0] == "var":
+                self.apart[b] = self.apart.get(b, ()) + (a,)
 
     def write(self, table, key, value):
         """Put the value into one of the tables, and log what was there."""
         self.log.append((table, key, table.get(key)))
         table[key] = value
-
-    def written(self):
-        """How much has been logged."""
-        return len(self.log)
 
     def take_back(self, written):
         """Undo all but the first so many things that were logged."""
@@ -58,6 +61,14 @@ class Joined:
         """Write down what the term, which stands for itself, has been found to be."""
         self.write(self.marks, term, self.marks.get(term, 0) | bits)
 
+    def settle(self, a, b):
+        """Solve one more equation, a being a term of the contract; whether that can be."""
+        if a[0] == "var" and a[1] not in self.table:
+            # a variable of which nothing has been found
+            self.write(self.table, a[1], self.stands(b))
+            return True
+        return self.unite(a, b)
+
     def unite(self, a, b):
         """Solve one more equation; whether that can be."""
         left, right = self.stands(a), self.stands(b)
@@ -68,13 +79,19 @@ class Joined:
         number, term = replacement(left, right)
         old = ("var", number)
         bits = self.marks.get(old, 0)
-        if self.clash(bits, term) or self.are_apart(old, term):
+        if term[0] == "num":
+            # a constant is an old word without a mark
+            bits = bits & (NEEDED | BARRED)
+        if bits and self.clash(bits, term):
             return False
+        if old in self.apart:
+            if self.are_apart(old, term):
+                return False
+            if term[0] == "var":
+                self.write(self.apart, term, self.apart.get(term, ()) + self.apart[old])
         self.write(self.table, number, term)
         if bits:
             self.mark(term, bits)
-        if old in self.apart:
-            self.write(self.apart, term, self.apart.get(term, ()) + self.apart[old])
         return True
 
     def clash(self, bits, term):
@@ -98,8 +115,10 @@ class Joined:
         left, right = self.stands(a), self.stands(b)
         if left == right:
             return False
-        self.write(self.apart, left, self.apart.get(left, ()) + (right,))
-        self.write(self.apart, right, self.apart.get(right, ()) + (left,))
+        if left[0] == "var":
+            self.write(self.apart, left, self.apart.get(left, ()) + (right,))
+        if right[0] == "var":
+            self.write(self.apart, right, self.apart.get(right, ()) + (left,))
         return True
 
     def need(self, cell):
@@ -118,5 +137,5 @@ class Joined:
         return left[0] != "new" and (self.marks.get(left, 0) & NEEDED) == 0
 
     def answer(self):
-        """The answer of the equations."""
-        return tuple((number, self.stands(("var", number))) for number in sorted(self.table))
+        """A dict: by the number of each variable that is replaced, the term that stands in its place."""
+        return {number: self.stands(self.table[number]) for number in self.table}

@@ -19,7 +19,8 @@ class Memory:
 
     def __init__(self, actual, heap):
         self.places = {cell[0]: Cell(cell[0], cell[1], cell[2]) for cell in heap}
-        self.fresh = first_new(actual, heap)
+        self.first = first_new(actual, heap)
+        self.news = 0
         self.asked = []
 
     def constant(self, number):
@@ -36,11 +37,19 @@ class Memory:
         self.asked.append(("same", a, b, a == b))
         return a == b
 
+    def new_address(self, number):
+        """The new address of this number."""
+        return self.first + number
+
     def make(self, first, second):
         """The address of a new cell."""
-        address = self.fresh
+        address = self.make_at(self.new_address(self.news), first, second)
+        self.news += 1
+        return address
+
+    def make_at(self, address, first, second):
+        """The new address, at which there is a cell now."""
         self.places[address] = Cell(address, first, second)
-        self.fresh += 1
         return address
 
     def cell_at(self, address):
@@ -89,7 +98,7 @@ class Run(Machine):
         frames = []
         for frame in self.frames:
             frames.append((frame.procedure[1], tuple(frame.names.items()), frame.work, frame.depth))
-        return (self.steps, self.memory.held(), tuple(frames), self.memory.fresh)
+        return (self.steps, self.memory.held(), tuple(frames), self.memory.new_address(self.memory.news))
 
 
 def run(program, name, actual, heap, depth, turns):
@@ -100,8 +109,13 @@ def run(program, name, actual, heap, depth, turns):
 def places_of(program, name, actual, heap, depth, turns):
     """A tuple of the (procedure, place) of all statements that the run does, rising."""
     whole = Run(program, name, actual, heap, depth=depth, turns=turns)
-    whole.finish()
-    return rising(program, whole.done)
+    done = {}
+    while whole.ended is None:
+        frame = whole.frames[-1]
+        if frame.work:
+            done[(frame.procedure[1], frame.work[0][1][1])] = True
+        whole.advance()
+    return rising(program, done)
 
 
 def rising(program, done):

@@ -1,6 +1,6 @@
 """Paths through a procedure's body."""
 
-from heappacts.terms import put, put_all
+from heappacts.terms import looked_up, put_in, put_in_rows
 
 
 def start(parameters):
@@ -56,9 +56,15 @@ def with_name(path, name, term):
 
 def replaced(path, answer):
     """The path with what is replaced replaced."""
-    parts = tuple(put_all(part, answer) for part in path[1:6])
-    names = tuple((name, put(term, answer)) for name, term in path[6])
-    return ("path",) + parts + (names,) + path[7:]
+    return replaced_by(path, dict(answer))
+
+
+def replaced_by(path, table):
+    """The path with the variables replaced whose numbers are in the table, a dict."""
+    _, arguments, needs, absent, differ, present, names = path[:7]
+    return ("path", put_in(arguments, table), put_in_rows(needs, table), put_in(absent, table),
+            put_in_rows(differ, table), put_in_rows(present, table),
+            tuple([(name, looked_up(term, table)) for name, term in names])) + path[7:]
 
 
 def with_end(path, end, where):

@@ -1,129 +1,161 @@
 """Composing a path with a contract: the ways to place its needed cells."""
 
-from heappacts.errors import TooMany
 from heappacts.joining import Joined
-from heappacts.ordering import numbers_in
-from heappacts.paths import gone, possible, replaced
-from heappacts.terms import put, put_all, shift, shift_all
+from heappacts.ordering import variables_in
+from heappacts.paths import gone, possible, replaced_by
+from heappacts.terms import shift
 
 NOWHERE = -1
 
 
 def compose(path, contract, actual):
     """A tuple of pairs (new path, result), one for each way."""
-    return Placing(path, None).compose(contract, actual)
+    return tuple(Placing(path, None).compose(contract, actual))
 
 
 def ways(path, contract, actual):
     """A tuple of (choices, answer, freed), one for each new path."""
-    return Placing(path, None).ways(contract, actual)
+    placing = Placing(path, None)
+    return tuple([(choices, tuple(sorted(answer.items())), freed)
+                  for choices, answer, freed in placing.ways(contract, actual)])
 
 
 class Placing:
     """A path that is composed with one contract after another.
 
-    most: how many ways there may be for a contract, None where any number may be.
+    most: how many ways are looked for with each contract, None for all of them.
     """
 
     def __init__(self, path, most):
         self.path = path
         self.most = most
         self.is_possible = possible(path)
-        self.gone = gone(path)
+        self.gone = None
         self.joined = Joined(path)
-        self.begun = self.joined.written()
 
     def compose(self, contract, actual):
-        """What compose gives for the path."""
-        return tuple([composed(self.path, contract, way) for way in self.ways(contract, actual)])
+        """A list of pairs (new path, result), one for each way."""
+        return [self.composed(contract, way) for way in self.ways(contract, actual)]
 
     def ways(self, contract, actual):
-        """What ways gives for the path."""
+        """A list of (choices, answer, freed), one for each new path; answer is a dict."""
         found = []
-        if self.is_possible and self.begin(contract, actual):
-            needs = self.moved(contract[2])
-            absent = self.moved(contract[3])
-            self.place_rest(needs, absent, [], found)
-        self.joined.take_back(self.begun)
-        return tuple(found)
 
-    def moved(self, things):
-        """The contract's things, numbered behind those of the path."""
-        return shift_all(things, self.path[7], self.path[8])
+        def enough(way):
+            found.append(way)
+            return len(found) == self.most
+        self.search(contract, actual, enough)
+        return found
+
+    def search(self, contract, actual, enough):
+        """Tell the function the ways in order, until it says that they are enough; whether it did."""
+        over = False
+        if self.is_possible and self.begin(contract, actual):
+            if self.gone is None and contract[3]:
+                self.gone = gone(self.path)
+            needs = [self.moved(cell) for cell in contract[2]]
+            over = self.place_rest(needs, self.moved(contract[3]), (), enough)
+        self.joined.take_back(0)
+        return over
+
+    def moved(self, terms):
+        """A tuple of the contract's terms, numbered behind those of the path."""
+        return tuple([shift(term, self.path[7], self.path[8]) for term in terms])
 
     def begin(self, contract, actual):
         """Make the arguments one with the actual terms, and the pairs unlike; whether that can be."""
-        for term, argument in zip(actual, self.moved(contract[1])):
-            if not self.joined.unite(term, argument):
+        variables, news = self.path[7:9]
+        joined = self.joined
+        for term, argument in zip(actual, contract[1]):
+            if not joined.settle(shift(argument, variables, news), term):
                 return False
-        for a, b in self.moved(contract[4]):
-            if not self.joined.part(a, b):
-                return False
-        return True
+        if contract[2] or contract[3]:
+            return all(joined.part(shift(a, variables, news), shift(b, variables, news)) for a, b in contract[4])
+        # where nothing more is made one, a pair that is unlike now stays so
+        return all(joined.stands(shift(a, variables, news)) != joined.stands(shift(b, variables, news))
+                   for a, b in contract[4])
 
-    def place_rest(self, needs, absent, choices, found):
-        """Add all ways that begin with the choices to those that were found."""
+    def place_rest(self, needs, absent, choices, enough):
+        """Tell all ways that begin with the choices; whether they are enough."""
         if len(choices) == len(needs):
-            self.end(absent, tuple(choices), found)
-            return
+            return self.end(absent, choices, enough)
         cell = needs[len(choices)]
-        written = self.joined.written()
+        written = len(self.joined.log)
         for number, other in enumerate(self.path[5]):
-            if number not in choices and self.unite_cells(other, cell):
-                self.place_rest(needs, absent, choices + [number], found)
+            over = (number not in choices and self.unite_cells(other, cell)
+                    and self.place_rest(needs, absent, choices + (number,), enough))
             self.joined.take_back(written)
-        if self.joined.need(cell):
-            self.place_rest(needs, absent, choices + [NOWHERE], found)
+            if over:
+                return True
+        over = self.joined.need(cell) and self.place_rest(needs, absent, choices + (NOWHERE,), enough)
         self.joined.take_back(written)
+        return over
 
     def unite_cells(self, a, b):
         """Make two cells one; whether that can be."""
         return self.joined.unite(a[0], b[0]) and self.joined.unite(a[1], b[1]) and self.joined.unite(a[2], b[2])
 
-    def end(self, absent, choices, found):
-        """Add the ways with all of the choices, one for each place of the absent address."""
-        written = self.joined.written()
+    def end(self, absent, choices, enough):
+        """Tell the ways with all of the choices, one for each place of the absent address; whether they are enough."""
+        written = len(self.joined.log)
         for address in absent:
             for number, other in enumerate(self.gone):
-                if self.joined.unite(other, address):
-                    self.add_way(choices, number, found)
+                over = self.joined.unite(other, address) and enough((choices, self.joined.answer(), number))
                 self.joined.take_back(written)
-        if all([self.joined.can_be_absent(address) for address in absent]):
-            self.add_way(choices, NOWHERE, found)
+                if over:
+                    return True
+        if not all([self.joined.can_be_absent(address) for address in absent]):
+            return False
+        return enough((choices, self.joined.answer(), NOWHERE))
 
-    def add_way(self, choices, freed, found):
-        """Add one way."""
-        found.append((choices, self.joined.answer(), freed))
-        if self.most is not None and len(found) > self.most:
-            raise TooMany()
+    def composed(self, contract, way):
+        """The pair (new path, result) of one way."""
+        choices, answer, freed = way
+        path = self.path
+        before = path if keeps(path, answer) else replaced_by(path, answer)
+        stands = Standing(path, answer)
+        missing = stands.rows([cell for cell, choice in zip(contract[2], choices) if choice == NOWHERE])
+        absent = stands.terms(contract[3]) if freed == NOWHERE else ()
+        differ, gives = stands.rows(contract[4]), stands.rows(contract[7])
+        left = before[5]
+        if choices:
+            left = tuple([cell for number, cell in enumerate(left) if number not in choices])
+        end, result = ended(contract, freed)
+        if result is not None:
+            result = stands.term(result)
+        new_path = ("path", before[1], before[2] + missing, before[3] + absent, before[4] + differ, left + gives,
+                    before[6], path[7] + variables_in(contract), path[8] + contract[9], end, contract[8])
+        return new_path, result
 
 
-def composed(path, contract, way):
-    """The pair (new path, result) of one way."""
-    choices, answer, freed = way
-    variables, news = path[7:9]
-    needs, absent, differ, gives = [
-        put_all(shift_all(contract[part], variables, news), answer) for part in (2, 3, 4, 7)]
-    before = path if keeps(path, answer) else replaced(path, answer)
-    missing = tuple(cell for cell, choice in zip(needs, choices) if choice == NOWHERE)
-    left = tuple(cell for number, cell in enumerate(before[5]) if number not in choices)
-    end, result = ended(contract, freed)
-    if result is not None:
-        result = put(shift(result, variables, news), answer)
-    new_path = ("path", before[1], before[2] + missing, before[3] + (absent if freed == NOWHERE else ()),
-                before[4] + differ, left + gives, before[6], variables + variables_in(contract),
-                news + contract[9], end, contract[8])
-    return new_path, result
+class Standing:
+    """What stands for the terms of a contract that a path was composed with."""
+
+    def __init__(self, path, answer):
+        self.variables = path[7]
+        self.news = path[8]
+        self.table = answer
+        self.known = {}
+
+    def term(self, term):
+        """What stands for the term."""
+        if term not in self.known:
+            moved = shift(term, self.variables, self.news)
+            self.known[term] = self.table.get(moved[1], moved) if moved[0] == "var" else moved
+        return self.known[term]
+
+    def terms(self, terms):
+        """A tuple of what stands for the terms."""
+        return tuple([self.term(term) for term in terms])
+
+    def rows(self, rows):
+        """A tuple of what stands for the cells, or for the pairs."""
+        return tuple([self.terms(row) for row in rows])
 
 
 def keeps(path, answer):
     """Whether the answer replaces none of the path's own variables."""
-    return not answer or answer[0][0] >= path[7]
-
-
-def variables_in(contract):
-    """How many variables it has: one more than the greatest number of one."""
-    return 1 + max(numbers_in(contract), default=-1)
+    return all([number >= path[7] for number in answer])
 
 
 def ended(contract, freed):

@@ -1,6 +1,7 @@
 """The contracts of statements."""
 
-ZERO = ("num", 0)
+from heappacts.terms import ZERO
+
 NEW = ("new", 0)
 
 

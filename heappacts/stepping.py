@@ -5,7 +5,7 @@ from heappacts.checking import procedure_of
 
 def do_items(statements):
     """The items of work that do the statements."""
-    return tuple(("do", statement) for statement in statements)
+    return tuple([("do", statement) for statement in statements])
 
 
 class Frame:
@@ -29,6 +29,14 @@ class Frame:
         self.statement = item[1]
         return item
 
+    def forked(self):
+        """A frame of its own that is like this one."""
+        other = Frame(self.procedure, (), self.depth)
+        other.names = {name: self.names[name] for name in self.names}
+        other.work = self.work
+        other.statement = self.statement
+        return other
+
 
 class Cell:
     """A cell of a heap on which procedures run."""
@@ -41,6 +49,12 @@ class Cell:
     def told(self):
         """The cell as a tuple."""
         return (self.address, self.fields[0], self.fields[1])
+
+    def forked(self):
+        """A cell of its own that is like this one."""
+        other = Cell(self.address, self.fields[0], self.fields[1])
+        other.freed = self.freed
+        return other
 
 
 class Machine:
@@ -55,9 +69,16 @@ class Machine:
         self.program = program
         self.turns = turns
         self.frames = [Frame(procedure_of(program, name), actual, depth)]
-        self.done = {}
         self.steps = 0
         self.ended = None
+
+    def forked(self, memory):
+        """A run of its own that is like this one and goes on with another memory."""
+        other = Machine(memory, self.program, self.frames[0].procedure[1], (), 0, self.turns)
+        other.frames = [frame.forked() for frame in self.frames]
+        other.steps = self.steps
+        other.ended = self.ended
+        return other
 
     def advance(self):
         """Make one step of a run that has not ended."""
@@ -67,7 +88,6 @@ class Machine:
             self.give_back(frame)
             return
         item = frame.take_first()
-        self.done[(frame.procedure[1], item[1][1])] = True
         if item[0] == "do":
             self.do(frame, item[1])
         else:

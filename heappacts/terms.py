@@ -1,5 +1,7 @@
 """Terms, equations between them, and what stands for them."""
 
+ZERO = ("num", 0)
+
 
 def solve(equations):
     """A tuple of (k, term) for the variables that are replaced, None without a solution."""
@@ -55,6 +57,16 @@ def put_all(things, answer):
         else:
             found.append(tuple(looked_up(term, table) for term in thing))
     return tuple(found)
+
+
+def put_in(terms, table):
+    """A tuple of the terms with what the table (a dict) replaces replaced."""
+    return tuple([table.get(term[1], term) if term[0] == "var" else term for term in terms])
+
+
+def put_in_rows(rows, table):
+    """A tuple of the cells, or of the pairs, with what the table (a dict) replaces replaced."""
+    return tuple([put_in(row, table) for row in rows])
 
 
 def is_term(thing):
@@ -122,7 +134,7 @@ def certainly_unlike(a, b, addresses):
 
 def is_zero_or_in(term, addresses):
     """Whether the term is 0 or one of the addresses."""
-    return term == ("num", 0) or term in addresses
+    return term == ZERO or term in addresses
 
 
 def words_of(term, words, news):

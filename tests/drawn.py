@@ -82,6 +82,41 @@ class Drawer:
         return tuple((address,) + self.words(2, pool) for address in addresses)
 
 
+def numbered(statements, place=0):
+    """The statements with their places anew, and the place behind them."""
+    made = []
+    for statement in statements:
+        blocks = []
+        head, behind = (statement[0], place) + statement[2:], place + 1
+        if statement[0] in ("if", "while"):
+            for block in statement[4:]:
+                block, behind = numbered(block, behind)
+                blocks.append(block)
+            head = head[:4] + tuple(blocks)
+        made.append(head)
+        place = behind
+    return tuple(made), place
+
+
+def variant(drawer, procedure, name):
+    """A procedure like this one under another name: mostly with one statement left out, changed or moved."""
+    _, _, parameters, body, result = procedure
+    body, share = list(body), drawer.random.random()
+    place = drawer.random.randrange(len(body))
+    if share < 0.25:
+        del body[place]
+    elif share < 0.5:
+        body.insert(drawer.random.randrange(len(body)), body.pop(place))
+    elif share < 0.6:
+        drawer.names, drawer.callable, drawer.left, drawer.place = list(parameters) or ["u"], [], 0, 0
+        body[place] = ("set", 0, drawer.target(), drawer.operand())
+    elif share < 0.7:
+        result = drawer.random.choice(parameters + ("u", "v", 0, 1))
+    elif share < 0.8:
+        body.insert(place, ("new", 0, "w", drawer.random.choice(parameters + (0,)), 0))
+    return ("procedure", name, parameters, numbered(body)[0], result)
+
+
 class Terms:
     """Draws paths and contracts, possible ones or not, with few variables."""
 

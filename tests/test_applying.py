@@ -7,6 +7,7 @@ from heappacts.finding import contracts
 from heappacts.machine import run
 from helpers import Case, new, num, var
 from samples import PROGRAM, SAMPLES
+from starts import near, own
 
 X, Y, Z, U, V, W = (var(number) for number in range(6))
 ZERO = num(0)
@@ -149,18 +150,6 @@ class Promised(Case):
         self.promise(made, (5,), ((400, 1, 1),), ("return", 402, ((400, 1, 1), (401, 1, 402), (402, 401, 5)), ()))
 
 
-def valued(found, words):
-    """Arguments and needed cells of a contract as a heap; None if two cells would be at one address, or one at 0."""
-    def word(term):
-        return words[term[1]] if term[0] == "var" else term[1]
-    heap = sorted(tuple(word(term) for term in cell) for cell in found[2])
-    addresses = [cell[0] for cell in heap]
-    if 0 in addresses or len(set(addresses)) < len(addresses):
-        return None
-    absent = [word(term) for term in found[3]]
-    return tuple(word(term) for term in found[1]), tuple(heap), absent
-
-
 class Promises(Case):
     """For any arguments and any heap exactly one contract applies, and the run ends as it says."""
 
@@ -182,36 +171,11 @@ class Promises(Case):
         self.ends[outcome[0]] = self.ends.get(outcome[0], 0) + 1
         return number
 
-    def around(self, drawer, made, words):
-        """Arguments and heaps near a contract: its own, with further cells, without one, with one where none is."""
-        start = valued(made, words)
-        if start is None:
-            return
-        actual, heap, absent = start
-        yield actual, heap
-        there = [cell[0] for cell in heap]
-        further = [(word,) + drawer.words(2, words) for word in (3, 50, 9000) if word not in there + absent]
-        yield actual, tuple(sorted(heap + tuple(further)))
-        if heap:
-            lost = drawer.random.choice(heap)
-            yield actual, tuple(cell for cell in heap if cell != lost)
-            yield actual, tuple(sorted([cell for cell in heap if cell != lost] + further))
-        for word in absent:
-            if word != 0 and word not in there:
-                yield actual, tuple(sorted(heap + ((word,) + drawer.words(2, words),)))
-        if len(actual) > 1:
-            yield (actual[0],) * len(actual), heap
-
     def near(self, drawer, program, name, depth, turns, found):
         for number, made in enumerate(found):
-            many = 1 + max([0] + [term[1] for cell in made[2] for term in cell if term[0] == "var"]
-                           + [term[1] for term in made[1] if term[0] == "var"])
-            example = tuple(range(100, 100 + many))
-            for words in (example, drawer.words(many, (1, 2, 3, 100)), drawer.words(many, (0, 1, 7, 101)),
-                          drawer.words(many, example), drawer.words(many, example)):
-                for actual, heap in self.around(drawer, made, words):
-                    self.one_applies(program, name, depth, turns, found, actual, heap)
-            actual, heap, _ = valued(made, example)
+            for actual, heap in near(drawer, made):
+                self.one_applies(program, name, depth, turns, found, actual, heap)
+            actual, heap = own(made)
             self.exact(self.one_applies(program, name, depth, turns, found, actual, heap), number)
 
     def test_samples(self):

@@ -32,6 +32,20 @@ FUNCTIONS = {
     "lost": ("sure(contract)", "perhaps(contract)", "losing(contracts)", "still_held(heap, words)"),
     "asking": ("explore(work, count)",),
     "unknown": ("run_unknown(asker, program, name, actual, depth, turns)",),
+    "walking": ("tree(program, name, depth, turns)", "walk(tree, actual, heap)", "leaves(tree)",
+                "asked(tree, actual, heap)"),
+    "judging": ("judge(program, name, depth, turns, tree)", "faults_of(program, name, depth, turns, tree)"),
+    "sameness": ("compare(program, name, other, depth, turns)", "differs(program, name, other, depth, turns)",
+                 "partition(program, names, depth, turns)"),
+    "beside": ("run_beside(program, names, actuals, heap, mixing)", "mixings(first, second)",
+               "independent(program, names)", "serial(program, names)"),
+    "mending": ("mended(procedure, mend)", "with_procedure(program, procedure)", "beside_it(program, procedure)",
+                "mends(program, name, depth, turns)", "trimmed(program, name, depth, turns)"),
+    "refining": ("stands_for(program, name, other, depth, turns)", "order(program, names, depth, turns)"),
+    "renaming": ("matched(result, cells, other_result, other_cells, roots)", "alike(contract, other)",
+                 "compare_named(program, name, other, depth, turns)"),
+    "triples": ("holds_always(program, name, depth, turns, saying)", "strongest(contract)"),
+    "backward": ("before(program, name, depth, turns, after)", "needs_met(need, actual, words, heap)"),
 }
 
 CLASSES = {
@@ -40,6 +54,8 @@ CLASSES = {
                         "finish(self)")},
     "asking": {"Asked": (), "Asker": ("__init__(self, count, answers)", "same(self, a, b)", "cell(self, a)",
                                       "stands(self, a)", "unlike(self, a, b)")},
+    "keeping": {"Keeper": ("__init__(self, program)", "contracts(self, name, depth, turns)",
+                           "change(self, procedure)")},
 }
 
 
@@ -50,7 +66,7 @@ METHODS = """append clear copy count endswith extend find get index insert isaln
 items join keys ljust lower lstrip partition pop remove replace reverse rfind rjust rpartition rsplit rstrip setdefault
 split splitlines startswith strip update upper values zfill add discard""".split()
 
-EATERS = ("list", "tuple", "dict", "sorted", "sum", "min", "max", "any", "all", "enumerate", "zip")
+EATERS = ("list", "tuple", "dict", "sorted", "sum", "min", "max", "any", "all", "enumerate", "zip", "combinations")
 
 
 def trees():
@@ -105,13 +121,21 @@ class Form(unittest.TestCase):
         for name, tree in found.items():
             for node in ast.walk(tree):
                 self.assertNotIsInstance(node, ast.Import, name)
-                if isinstance(node, ast.ImportFrom):
+                if isinstance(node, ast.ImportFrom) and node.module != "itertools":
                     package, _, module = node.module.partition(".")
                     self.assertEqual((package, node.level), ("heappacts", 0), name)
                     defined = [part.name for part in found[module].body if hasattr(part, "name")]
                     defined += [part.targets[0].id for part in found[module].body if isinstance(part, ast.Assign)]
                     for alias in node.names:
                         self.assertIn(alias.name, defined, name)
+
+    def test_what_is_imported_from_the_library(self):
+        for name, tree in trees().items():
+            for node in ast.walk(tree):
+                if isinstance(node, ast.ImportFrom) and node.module == "itertools":
+                    self.assertEqual([(alias.name, alias.asname) for alias in node.names], [("combinations", None)], name)
+                if isinstance(node, ast.Name) and node.id == "combinations":
+                    self.assertEqual(name, "beside")
 
     def test_no_floats_and_nothing_global(self):
         for name, tree in trees().items():

@@ -54,6 +54,11 @@ class LeftOut(Case):
         pairs = [(var(9), var(1)), (var(2), num(4)), (num(5), var(1)), (var(1), var(2))]
         self.left(pairs, pairs)
 
+    def test_a_term_with_itself(self):
+        # it never differs, so it is not certain that it does
+        for term in (num(3), num(0), new(1), var(4)):
+            self.exact(left_out(((term, term), (term, term)), (var(4),), ()), ((term, term),))
+
     def test_nothing_handed_in_is_changed(self):
         pairs = ((var(1), var(2)), (var(2), var(1)))
         left_out(pairs, (var(1),), (var(2),))
